@@ -1,0 +1,1 @@
+"""Cut round faults: which sheets to stamp out of a coated foil."""
