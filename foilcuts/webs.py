@@ -1,31 +1,23 @@
 """A web of coated lanes: where its faults lie, and which sheets go out between them."""
 
 START = 0
-COAT = 1
-FAULT = 2
-MEND = 3
-STRETCHES = 4
-BEST = 5
-PLAN = 6
-WORTH = 7
-TOTAL = 8
-ALONE = 9
 
-# How many numbers stand behind each call's own. All twenty calls are here: one that
-# comes ahead of a start is refused, and must be stepped over to reach the one behind it.
+# How many numbers stand behind each call's own.
 NUMBERS_BEHIND = (6, 1, 3, 1, 1, 1, 1, 1, 0, 1, 3, 3, 3, 1, 1, 1, 0, 1, 0, 0)
 
 NONE_SUCH = -2
 NOT_STARTED = -11
-STAMPED_THERE = -16
+TAKEN = -16
 WRONG = -22
 FULL = -28
+NONE_THERE = -33
 
 MOST_LANES = 3
 MOST_PLACES = 80
 LONGEST_SHEET = 60
 MOST_WORTH = 1000
 MOST_FAULTS = 8
+MOST_SHEETS = 30
 
 SHORT = 0
 TALL = 1
@@ -89,22 +81,23 @@ def sheet_lies_in(web, lane, begin, end):
     return False
 
 
-def free_places(web, lane):
-    """For each place of the lane, whether it is free."""
-    free = [True for place in range(web.long)]
-    for begin, end in taken_by_faults(web, lane) + taken_by_sheets(web, lane):
+def taken_places(web, parts):
+    """For each place of a lane, whether one of the parts, each (begin, end), takes it."""
+    taken = [False for place in range(web.long)]
+    for begin, end in parts:
         for place in range(begin, end):
-            free[place] = False
-    return free
+            taken[place] = True
+    return taken
 
 
 def stretches_of(web, lane):
     """The lane's stretches, rising, each as (begin, end)."""
     found = []
     begin = 0
-    # A place that isn't free behind the last one closes a stretch up to the lane's end.
-    for place, is_free in enumerate(free_places(web, lane) + [False]):
-        if not is_free:
+    taken = taken_places(web, taken_by_faults(web, lane) + taken_by_sheets(web, lane))
+    # A place that's taken behind the last one closes a stretch up to the lane's end.
+    for place, is_taken in enumerate(taken + [True]):
+        if is_taken:
             if begin < place:
                 found.append((begin, place))
             begin = place + 1
@@ -141,6 +134,37 @@ def worth_of(web, lane):
     return sum([web.worths[size] for begin, size in plan_of(web, lane)])
 
 
+def worth_of_all(web):
+    """What all lanes are worth together."""
+    return sum([worth_of(web, lane) for lane in range(web.lanes)])
+
+
+def cost_of(web, f):
+    """How much more all lanes would be worth, were the fault mended."""
+    # Told of another web, so that this one stays as it is.
+    mended = Web(web.lanes, web.long, web.lengths, web.worths)
+    mended.faults = dict(web.faults)
+    mended.faults.pop(f)
+    mended.sheets = dict(web.sheets)
+    return worth_of_all(mended) - worth_of_all(web)
+
+
+def first_fit(web, lane, begin, size):
+    """The first place, begin or behind it, from which on a sheet fits, or None."""
+    for stretch_begin, stretch_end in stretches_of(web, lane):
+        place = max(begin, stretch_begin)
+        if place + web.lengths[size] <= stretch_end:
+            return place
+    return None
+
+
+def lay_sheet(web, lane, begin, size):
+    """Put a sheet where it is known to fit, and tell its number."""
+    number = least_free(web.sheets)
+    web.sheets[number] = (lane, begin, size)
+    return number
+
+
 def counted_pairs(pairs):
     """How many pairs there are, then their numbers one behind another."""
     numbers = [len(pairs)]
@@ -162,7 +186,7 @@ def fault(web, lane, begin, end):
     if lane >= web.lanes or end <= begin or end > web.long:
         return [WRONG]
     if sheet_lies_in(web, lane, begin, end):
-        return [STAMPED_THERE]
+        return [TAKEN]
     if len(web.faults) >= MOST_FAULTS:
         return [FULL]
     number = least_free(web.faults)
@@ -208,7 +232,7 @@ def worth(web, lane):
 
 def total(web):
     """What all lanes are worth."""
-    return [sum([worth_of(web, lane) for lane in range(web.lanes)])]
+    return [worth_of_all(web)]
 
 
 def alone(web, size):
@@ -222,27 +246,107 @@ def alone(web, size):
     return [many]
 
 
+def fits(web, lane, begin, size):
+    """Whether all places of such a sheet are free, as 1 or 0."""
+    if lane >= web.lanes or size > TALL:
+        return [WRONG]
+    return [1 if first_fit(web, lane, begin, size) == begin else 0]
+
+
+def next_place(web, lane, begin, size):
+    """The first place, begin or behind it, from which on such a sheet fits."""
+    if lane >= web.lanes or size > TALL:
+        return [WRONG]
+    place = first_fit(web, lane, begin, size)
+    return [NONE_THERE if place is None else place]
+
+
+def stamp(web, lane, begin, size):
+    """Stamp one sheet."""
+    if lane >= web.lanes or size > TALL:
+        return [WRONG]
+    if first_fit(web, lane, begin, size) != begin:
+        return [TAKEN]
+    if len(web.sheets) >= MOST_SHEETS:
+        return [FULL]
+    return [lay_sheet(web, lane, begin, size)]
+
+
+def follow(web, lane):
+    """Stamp all sheets of the lane's plan, or none of them."""
+    if lane >= web.lanes:
+        return [WRONG]
+    planned = plan_of(web, lane)
+    if len(web.sheets) + len(planned) > MOST_SHEETS:
+        return [FULL]
+    for begin, size in planned:
+        lay_sheet(web, lane, begin, size)
+    return [len(planned)]
+
+
+def lift(web, s):
+    """Take a stamped sheet away, and tell its size."""
+    if s not in web.sheets:
+        return [NONE_SUCH]
+    lifted = web.sheets.pop(s)
+    return [lifted[2]]
+
+
+def gain(web, f):
+    """What the fault costs."""
+    if f not in web.faults:
+        return [NONE_SUCH]
+    return [cost_of(web, f)]
+
+
+def worst(web):
+    """The fault that costs most, and how much; of like ones that with the least number."""
+    if len(web.faults) == 0:
+        return [NONE_THERE]
+    numbers = sorted(web.faults)
+    costs = [cost_of(web, f) for f in numbers]
+    most = max(costs)
+    return [numbers[costs.index(most)], most]
+
+
+def sheet(web, s):
+    """A stamped sheet's size, its lane, where it begins."""
+    if s not in web.sheets:
+        return [NONE_SUCH]
+    found = web.sheets[s]
+    return [found[2], found[0], found[1]]
+
+
+def metres(web):
+    """How many places there are, and how many are free, faulty, stamped."""
+    every = web.lanes * web.long
+    faulty = 0
+    stamped = 0
+    for lane in range(web.lanes):
+        # Faults may lie over one another, so the places are counted, not the faults' lengths.
+        faulty += taken_places(web, taken_by_faults(web, lane)).count(True)
+        stamped += taken_places(web, taken_by_sheets(web, lane)).count(True)
+    return [every, every - faulty - stamped, faulty, stamped]
+
+
+def state(web):
+    """How long the web is; how many lanes, faults, sheets."""
+    return [web.long, web.lanes, len(web.faults), len(web.sheets)]
+
+
+ANSWERED_BY = {
+    1: coat, 2: fault, 3: mend, 4: stretches, 5: best, 6: plan, 7: worth, 8: total, 9: alone, 10: fits,
+    11: next_place, 12: stamp, 13: follow, 14: lift, 15: gain, 16: worst, 17: sheet, 18: metres, 19: state,
+}
+
+
 def answer(web, call, numbers):
     """What a started web answers to one call."""
-    if call == COAT:
-        return coat(web, numbers[0])
-    if call == FAULT:
-        return fault(web, numbers[0], numbers[1], numbers[2])
-    if call == MEND:
-        return mend(web, numbers[0])
-    if call == STRETCHES:
-        return stretches(web, numbers[0])
-    if call == BEST:
-        return best(web, numbers[0])
-    if call == PLAN:
-        return plan(web, numbers[0])
-    if call == WORTH:
-        return worth(web, numbers[0])
-    if call == TOTAL:
-        return total(web)
-    if call == ALONE:
-        return alone(web, numbers[0])
-    raise NotImplementedError("this call is not built yet")
+    if len(numbers) == 0:
+        return ANSWERED_BY[call](web)
+    if len(numbers) == 1:
+        return ANSWERED_BY[call](web, numbers[0])
+    return ANSWERED_BY[call](web, numbers[0], numbers[1], numbers[2])
 
 
 def answers(calls):

@@ -45,6 +45,47 @@ def alone(size):
     return [9, size]
 
 
+def fits(lane, begin, size):
+    return [10, lane, begin, size]
+
+
+def following(lane, begin, size):
+    """The call next."""
+    return [11, lane, begin, size]
+
+
+def stamp(lane, begin, size):
+    return [12, lane, begin, size]
+
+
+def follow(lane):
+    return [13, lane]
+
+
+def lift(s):
+    return [14, s]
+
+
+def gain(f):
+    return [15, f]
+
+
+def worst():
+    return [16]
+
+
+def sheet(s):
+    return [17, s]
+
+
+def metres():
+    return [18]
+
+
+def state():
+    return [19]
+
+
 def ask(*calls):
     """The answers to a line of calls, each as a list of its numbers."""
     given = answers([number for call in calls for number in call])
@@ -62,3 +103,17 @@ def ask(*calls):
 def last(*calls):
     """The answer to the last of the calls."""
     return ask(*calls)[-1]
+
+
+class Draw:
+    """Numbers that look drawn, yet are the same ones under every Python."""
+
+    def __init__(self, seed):
+        self.kept = seed * 2 + 1
+
+    def below(self, many):
+        self.kept = (self.kept * 6364136223846793005 + 1442695040888963407) % 2 ** 64
+        return (self.kept >> 33) % many
+
+    def one_of(self, choices):
+        return choices[self.below(len(choices))]

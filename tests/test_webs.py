@@ -2,8 +2,8 @@
 
 import unittest
 
-from foilcuts import webs
-from tests.helper import BIGGEST, alone, ask, coat, fault, last, mend, plan, start, stretches, total
+from tests.helper import (BIGGEST, alone, ask, coat, fault, last, lift, mend, plan, stamp, start, state, stretches,
+                          total)
 
 
 class Start(unittest.TestCase):
@@ -104,34 +104,27 @@ class Fault(unittest.TestCase):
 
 
 class FaultByASheet(unittest.TestCase):
-    """No call built so far stamps a sheet, so these lay one on the web by hand."""
-
-    def setUp(self):
-        self.web = webs.Web(2, 20, (3, 5), (3, 5))
-        self.web.sheets[0] = (0, 4, 0)
-        self.web.sheets[1] = (0, 10, 1)
+    BEGUN = (start(lanes=2, long=20, short=3, tall=5), stamp(0, 4, 0), stamp(0, 10, 1))
 
     def test_a_sheet_lies_there(self):
-        for begin, end in ((4, 5), (6, 7), (0, 5), (6, 9), (5, 6), (3, 8), (14, 15), (9, 11)):
+        for begin, end in ((4, 5), (6, 7), (0, 5), (6, 9), (5, 6), (3, 8), (14, 15), (9, 11), (0, 20)):
             with self.subTest(begin=begin, end=end):
-                self.assertEqual(webs.fault(self.web, 0, begin, end), [-16])
-                self.assertEqual(self.web.faults, {})
+                self.assertEqual(ask(*self.BEGUN, fault(0, begin, end), state(), stretches(0))[3:],
+                                 [[-16], [20, 2, 0, 2], [3, 0, 4, 7, 10, 15, 20]])
 
     def test_beside_a_sheet_and_on_another_lane(self):
-        self.assertEqual([webs.fault(self.web, lane, begin, end)
-                          for lane, begin, end in ((0, 3, 4), (0, 7, 10), (0, 15, 16), (1, 4, 7))],
-                         [[0], [1], [2], [3]])
+        line = (fault(0, 3, 4), fault(0, 7, 10), fault(0, 15, 16), fault(1, 4, 7))
+        self.assertEqual(ask(*self.BEGUN, *line)[3:], [[0], [1], [2], [3]])
+
+    def test_once_it_is_lifted(self):
+        self.assertEqual(ask(*self.BEGUN, lift(0), fault(0, 4, 7), fault(0, 12, 13))[3:], [[0], [0], [-16]])
 
     def test_which_refusal_comes_first(self):
-        for number in range(8):
-            webs.fault(self.web, 1, 0, 1)
-        self.assertEqual(webs.fault(self.web, 0, 4, 21), [-22])
-        self.assertEqual(webs.fault(self.web, 0, 4, 5), [-16])
-        self.assertEqual(webs.fault(self.web, 0, 3, 4), [-28])
+        line = [fault(1, 0, 1)] * 8 + [fault(0, 4, 21), fault(0, 6, 5), fault(2, 4, 5), fault(0, 4, 5), fault(0, 3, 4)]
+        self.assertEqual(ask(*self.BEGUN, *line)[11:], [[-22], [-22], [-22], [-16], [-28]])
 
     def test_its_places_are_not_free(self):
-        self.assertEqual(webs.stretches(self.web, 0), [3, 0, 4, 7, 10, 15, 20])
-        self.assertEqual(webs.stretches(self.web, 1), [1, 0, 20])
+        self.assertEqual(ask(*self.BEGUN, stretches(0), stretches(1))[3:], [[3, 0, 4, 7, 10, 15, 20], [1, 0, 20]])
 
 
 class Mend(unittest.TestCase):
